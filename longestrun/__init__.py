@@ -1,0 +1,1 @@
+"""How long a program takes at most, told before it runs."""
