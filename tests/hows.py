@@ -1,6 +1,6 @@
 """Ways to write a how in a test."""
 
-from longestrun.desk import tt_right
+from longestrun.desk import tt_most, tt_right
 
 TOP = 4294967295
 NAMES = ["codeLine", "codeSets", "codeWays", "codeNone", "dataLine", "dataSets", "dataWays", "dataNone",
@@ -32,7 +32,15 @@ def row(*parts):
     return [number for part in parts for number in part]
 
 
+def numbers(changed):
+    usual = dict(USUAL)
+    usual.update(changed)
+    return [usual[name] for name in NAMES]
+
+
 def ask(part, **changed):
-    numbers = dict(USUAL)
-    numbers.update(changed)
-    return tt_right(*[numbers[name] for name in NAMES], part)
+    return tt_right(*numbers(changed), part)
+
+
+def most(part, **changed):
+    return tt_most(*numbers(changed), part)

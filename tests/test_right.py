@@ -1,8 +1,8 @@
-"""tt_right: ordinary programs, and each edge of being right from both sides."""
+"""tt_right: ordinary programs, and each edge of being right from both sides; tt_most refuses the same."""
 
 import unittest
 
-from hows import RIGHT, TOP, WRONG, ask, behind, either, loop, row, step
+from hows import RIGHT, TOP, WRONG, ask, behind, either, loop, most, row, step
 
 SOME = row(step())
 
@@ -10,9 +10,11 @@ SOME = row(step())
 class Case(unittest.TestCase):
     def right(self, part, **changed):
         self.assertEqual(ask(part, **changed), RIGHT)
+        self.assertGreaterEqual(most(part, **changed)[1], 0)
 
     def wrong(self, part, **changed):
         self.assertEqual(ask(part, **changed), WRONG)
+        self.assertEqual(most(part, **changed), WRONG)
 
     def edges(self, name, right, wrong):
         for value in right:
