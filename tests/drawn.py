@@ -1,4 +1,4 @@
-"""Programs drawn at random, small enough to be gone through whole."""
+"""Programs drawn at random, small enough to be gone through whole, and choices for them."""
 
 from hows import TOP, USUAL
 
@@ -52,3 +52,51 @@ def draw_program(pick, how, others, often=(0, 1, 1, 2, 3, 9), widest=6, largest=
         if size(more) <= largest:
             parts = more
     return parts
+
+
+def steps_alone(pick, how):
+    """Steps of at most one byte, one behind another, bound in whatever way."""
+    parts = [draw_step(pick, how, 1) for turn in range(pick.randrange(1, 30))]
+    for part in parts:
+        part[4] = min(part[4], part[3])
+    left = list(range(len(parts)))
+    while len(left) > 1:
+        place = pick.randrange(len(left) - 1)
+        parts.append([1, left[place], left[place + 1], 0, 0])
+        left[place:place + 2] = [len(parts) - 1]
+    return parts
+
+
+def choose(pick, choices, parts, n, enough):
+    """Draws the choices of a run of part n; when there are enough, loops are gone through no more."""
+    kind, a, b, c, d = parts[n]
+    if kind == 0:
+        if c <= d:
+            choices.append(pick.choice((0, d - c, pick.randint(0, d - c))))
+    elif kind == 1:
+        choose(pick, choices, parts, a, enough)
+        choose(pick, choices, parts, b, enough)
+    elif kind == 2:
+        choices.append(pick.randrange(2))
+        choose(pick, choices, parts, (a, b)[choices[-1]], enough)
+    else:
+        choices.append(0 if len(choices) > enough else pick.choice((b, pick.randint(0, b))))
+        for turn in range(choices[-1]):
+            choose(pick, choices, parts, a, enough)
+
+
+def draw_choices(pick, parts, enough=100):
+    choices = []
+    choose(pick, choices, parts, len(parts) - 1, enough)
+    return choices
+
+
+def spoil(pick, choices):
+    """Choices that are most likely wrong now: one is too large, or another, some are wanting, or left over."""
+    n = pick.randrange(len(choices) + 1)
+    if pick.random() < 0.2:
+        return choices + [pick.choice((0, 1, TOP))] * pick.choice((1, 1, 9))
+    if pick.random() < 0.4:
+        return pick.choice((choices[:-1], choices[:n], choices[1:], choices[:n] + choices[n + 1:]))
+    other = pick.choice((0, 1, 2, 3, 4, 5, 10, 16, 64, 4097, TOP))
+    return choices[:n] + [other] + choices[n + 1:]

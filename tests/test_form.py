@@ -19,7 +19,7 @@ WORDS = ("type|typing|typing_extensions|enum|Enum|IntEnum|StrEnum|Flag|IntFlag|G
          "NamedTuple|TypedDict|TYPE_CHECKING|abstractmethod|register|mro|elements|open|input")
 FORBIDDEN = (ast.With, ast.Match, ast.Delete, ast.Global, ast.Nonlocal, ast.Assert, ast.Yield, ast.YieldFrom,
              ast.AsyncFunctionDef, ast.Await, ast.NamedExpr, ast.Starred, ast.GeneratorExp, ast.SetComp, ast.DictComp,
-             ast.Div, ast.Import, ast.AnnAssign)
+             ast.Div, ast.Import, ast.AnnAssign, ast.TryStar)
 
 
 def trees():
@@ -28,6 +28,15 @@ def trees():
 
 def nodes():
     return [(file, node) for file, tree in trees() for node in ast.walk(tree)]
+
+
+def own_methods():
+    classes = [node for file, node in nodes() if isinstance(node, ast.ClassDef)]
+    return {node.name for one in classes for node in one.body if isinstance(node, ast.FunctionDef)}
+
+
+def own_values():
+    return {node.attr for file, node in nodes() if isinstance(node, ast.Attribute) and isinstance(node.ctx, ast.Store)}
 
 
 class Form(unittest.TestCase):
@@ -75,6 +84,7 @@ class Form(unittest.TestCase):
                 self.assertRegex(node.module, r"^longestrun\.[a-z]", file)
 
     def test_names_called(self):
+        methods = METHODS | own_methods()
         for file, tree in trees():
             own = {node.name for node in ast.walk(tree) if isinstance(node, (ast.FunctionDef, ast.ClassDef))}
             own |= {name.name for node in ast.walk(tree) if isinstance(node, ast.ImportFrom) for name in node.names}
@@ -82,7 +92,21 @@ class Form(unittest.TestCase):
                 if isinstance(node, ast.Call) and isinstance(node.func, ast.Name):
                     self.assertIn(node.func.id, BUILT_IN | ERRORS | own, (file.name, node.lineno))
                 elif isinstance(node, ast.Call):
-                    self.assertIn(node.func.attr, METHODS | own, (file.name, node.lineno))
+                    self.assertIn(node.func.attr, methods, (file.name, node.lineno))
+
+    def test_no_name_is_a_method_and_a_value(self):
+        self.assertEqual(own_methods() & own_values(), set())
+        self.assertEqual((own_methods() | own_values()) & METHODS, set())
+
+    def test_errors(self):
+        own = {node.name for file, node in nodes() if isinstance(node, ast.ClassDef)}
+        for file, node in nodes():
+            if isinstance(node, ast.Try):
+                self.assertEqual(node.finalbody, [], file)
+            if isinstance(node, ast.ExceptHandler):
+                self.assertIn(node.type.id, own, file)
+            if isinstance(node, ast.Raise):
+                self.assertIn(node.exc.func.id, own, file)
 
     def test_the_top_of_a_file_keeps_plain_values(self):
         plain = (ast.FunctionDef, ast.ClassDef, ast.ImportFrom, ast.Assign)

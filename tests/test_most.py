@@ -2,33 +2,7 @@
 
 import unittest
 
-from hows import TOP, WRONG, behind, either, loop, most, row, step
-
-CODE = 100
-DATA = 10000
-# A line of either cache has 16 bytes; there is one set with two places, unless a test says otherwise.
-PLAIN = {"codeLine": 4, "codeSets": 1, "codeWays": 2, "dataLine": 4, "dataSets": 1, "dataWays": 2,
-         "codeMiss": CODE, "dataMiss": DATA}
-
-
-def at(line, b=1):
-    """A step without a byte, whose instruction is in a line of code."""
-    return step(16 * line + 4, b)
-
-
-def on(first, last=None, b=1):
-    """A step at byte 0 that uses a byte in one of these lines of data."""
-    return step(0, b, 16 * first, 16 * (first if last is None else last) + 15)
-
-
-def chain(*steps):
-    """The steps one behind another."""
-    last = 0
-    parts = list(steps)
-    for place in range(1, len(steps)):
-        parts.append(behind(last, place))
-        last = len(parts) - 1
-    return row(*parts)
+from hows import CODE, DATA, PLAIN, TOP, WRONG, at, behind, chain, either, loop, most, on, row, step
 
 
 class Case(unittest.TestCase):

@@ -3,7 +3,7 @@
 import random
 import unittest
 
-from drawn import draw_how, draw_program, draw_step
+from drawn import draw_how, draw_program, steps_alone
 from hows import behind, either, loop, most, row, step
 from runs import longest, longest_from_empty
 from second import kind
@@ -67,30 +67,18 @@ class NoRunTakesLonger(unittest.TestCase):
 
 
 class ToldJustSo(unittest.TestCase):
-    def steps_alone(self, pick, how):
-        """Steps of at most one byte, one behind another, bound in whatever way."""
-        parts = [draw_step(pick, how, 1) for turn in range(pick.randrange(1, 30))]
-        for part in parts:
-            part[4] = min(part[4], part[3])
-        left = list(range(len(parts)))
-        while len(left) > 1:
-            place = pick.randrange(len(left) - 1)
-            parts.append(behind(left[place], left[place + 1]))
-            left[place:place + 2] = [len(parts) - 1]
-        return parts
-
     def test_steps_of_at_most_one_byte(self):
         pick = random.Random(64)
         for turn in range(500):
             how = draw_how(pick)
-            parts = self.steps_alone(pick, how)
+            parts = steps_alone(pick, how)
             self.assertEqual(most(row(*parts), **how)[1], longest_from_empty(how, parts), (how, parts))
 
     def test_a_part_used_at_many_places(self):
         pick = random.Random(65)
         for turn in range(30):
             how = draw_how(pick)
-            parts = self.steps_alone(pick, how)[:1]
+            parts = steps_alone(pick, how)[:1]
             parts += [[0, 4 * pick.randrange(20), 1, byte, byte] for byte in (0, 4, 8)]
             parts += [behind(0, 1), behind(2, 3), behind(4, 5), behind(6, 6), behind(7, 4), behind(8, 7), behind(9, 9)]
             parts += [behind(10, 10), behind(11, 6)]

@@ -1,8 +1,8 @@
-"""tt_right: ordinary programs, and each edge of being right from both sides; tt_most refuses the same."""
+"""tt_right: ordinary programs, and each edge of being right from both sides; the others refuse the same."""
 
 import unittest
 
-from hows import RIGHT, TOP, WRONG, ask, behind, either, loop, most, row, step
+from hows import RIGHT, TOP, WRONG, ask, behind, either, loop, most, row, run, step
 
 SOME = row(step())
 
@@ -11,10 +11,13 @@ class Case(unittest.TestCase):
     def right(self, part, **changed):
         self.assertEqual(ask(part, **changed), RIGHT)
         self.assertGreaterEqual(most(part, **changed)[1], 0)
+        self.assertNotEqual(run(part, [], **changed), WRONG)
 
     def wrong(self, part, **changed):
         self.assertEqual(ask(part, **changed), WRONG)
         self.assertEqual(most(part, **changed), WRONG)
+        for choice in ([], [0], [TOP]):
+            self.assertEqual(run(part, choice, **changed), WRONG)
 
     def edges(self, name, right, wrong):
         for value in right:
